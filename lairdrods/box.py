@@ -8,10 +8,15 @@ CUT = 2
 ROW = 3
 BY = 4
 INTO = 5
+ROOT = 6
+ARROWS = 7
+EXPLAIN = 8
+COUNT = 9
+SHOW = 10
 
 
 class UnknownCall(ValueError):
-    """A call's number is none of those that are answered here."""
+    """There is no call with that number."""
 
 
 class CallReader:
@@ -46,6 +51,12 @@ def answer_cut(rods, reader):
     return rods.cut(rod, face, k, reader.take_number())
 
 
+def answer_explain(rods, reader):
+    """What the call explain, whose numbers come now, answers."""
+    k = reader.take_number()
+    return rods.explain(k, reader.take_list())
+
+
 def answer_call(rods, reader):
     """What the call that comes now answers."""
     call = reader.take_number()
@@ -61,7 +72,17 @@ def answer_call(rods, reader):
         return rods.by(reader.take_list())
     if call == INTO:
         return rods.into(reader.take_list())
-    raise UnknownCall(f"no call that is answered has the number {call}")
+    if call == ROOT:
+        return rods.root(reader.take_list())
+    if call == ARROWS:
+        return rods.arrows(reader.take_number())
+    if call == EXPLAIN:
+        return answer_explain(rods, reader)
+    if call == COUNT:
+        return rods.count_rows(reader.take_number())
+    if call == SHOW:
+        return rods.show()
+    raise UnknownCall(f"no call has the number {call}")
 
 
 def answers(calls):

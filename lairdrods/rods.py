@@ -1,7 +1,8 @@
 """The rods of a box: how they are laid and cut, and how their rows are read.
 
 Each call's method answers a list of whole numbers. A refusal is answered by its
-number alone, and then nothing has changed.
+number alone (but for the root's, behind which digits are told), and then nothing
+has changed.
 """
 
 WRONG = -1
@@ -13,6 +14,9 @@ FACES_OF_A_ROD = 4
 MOST_RODS = 12
 MOST_DIGITS = 8
 MOST_DIGITS_PARTED = 16
+MOST_DIGITS_ROOTED = 16
+MOST_DIGITS_EXPLAINED = 12
+MOST_DIGITS_COUNTED = 3
 MOST_IN_A_CELL = 99
 
 
@@ -25,6 +29,14 @@ def digits_told(number):
     """How many digits the number has, then these, from the left."""
     digits = [int(sign) for sign in str(number)]
     return [len(digits)] + digits
+
+
+def counted(rows):
+    """How many rows there are, then the numbers of each."""
+    told = [len(rows)]
+    for row in rows:
+        told.extend(row)
+    return told
 
 
 def read_cells(cells):
@@ -54,6 +66,45 @@ def find_places(box, digits, used, dead_ends):
                 return [(number, faces.index(digits[0]))] + behind
     dead_ends[used] = True
     return None
+
+
+def can_be_laid(box, digits):
+    """Whether there is a way to lay the digits with this box."""
+    return find_places(box, digits, 0, {}) is not None
+
+
+def one_digit_longer(box, rows):
+    """The rows of one digit more that can be laid, out of all shorter ones that can."""
+    # What stands behind the first digit of such a row can be laid, too: no other
+    # rows have to be tried.
+    longer = []
+    for row in rows:
+        for digit in range(10):
+            if can_be_laid(box, [digit] + row):
+                longer.append([digit] + row)
+    return longer
+
+
+def pairs_of_digits(number):
+    """The number's digits two by two from the right, the left pair first; of 0 none."""
+    pairs = []
+    while number > 0:
+        pairs.append(number % 100)
+        number //= 100
+    return list(reversed(pairs))
+
+
+def root_digit(root, left):
+    """The next digit of the root so far, where that much is left."""
+    return max([digit for digit in range(10) if (20 * root + digit) * digit <= left])
+
+
+def numbers_that_read(cells, place, reading):
+    """The numbers, other than the cell's own, by which at that place the row reads so."""
+    ahead = cells[:place]
+    behind = cells[place + 1:]
+    return [number for number in range(MOST_IN_A_CELL + 1)
+            if number != cells[place] and read_cells(ahead + [number] + behind) == reading]
 
 
 def greatest_row(readings, left):
@@ -162,3 +213,67 @@ class Rods:
             quotient = 10 * quotient + k
             left -= readings[k]
         return digits_told(quotient) + digits_told(left)
+
+    def root(self, digits):
+        """Tells the number's root, and what's left; or what can't be laid on the way."""
+        if not are_digits(digits, MOST_DIGITS_ROOTED):
+            return [WRONG]
+        root = 0
+        left = 0
+        for pair in pairs_of_digits(read_cells(digits)):
+            twice = digits_told(2 * root)
+            # Ahead of the first pair there is no root yet that could be laid.
+            if root > 0 and not can_be_laid(self.box, twice[1:]):
+                return [CANNOT_BE_LAID] + twice
+            left = 100 * left + pair
+            digit = root_digit(root, left)
+            left -= (20 * root + digit) * digit
+            root = 10 * root + digit
+        return digits_told(root) + digits_told(left)
+
+    def multiples(self, k):
+        """K times each digit that's laid, from the left: flaws don't matter."""
+        return [k * self.box[rod][face] for rod, face in self.laid]
+
+    def arrows(self, k):
+        """Tells for each digit, from the right, what row k hands on, and the units."""
+        if k > 9:
+            return [WRONG]
+        if not self.laid:
+            return [NOTHING_LAID]
+        told = []
+        handed_on = 0
+        for multiple in reversed(self.multiples(k)):
+            number = multiple + handed_on
+            handed_on = number // 10
+            told.append(handed_on)
+            told.append(number % 10)
+        return told
+
+    def explain(self, k, digits):
+        """Tells each one cell, with a number in it, by which row k would be read so."""
+        if not 1 <= k <= 9 or not are_digits(digits, MOST_DIGITS_EXPLAINED):
+            return [WRONG]
+        if not self.laid:
+            return [NOTHING_LAID]
+        multiples = self.multiples(k)
+        reading = read_cells(digits)
+        found = []
+        for place, rod_and_face in enumerate(self.laid):
+            for number in numbers_that_read(multiples, place, reading):
+                found.append(rod_and_face + (number,))
+        return counted(found)
+
+    def count_rows(self, n):
+        """Tells how many rows of n digits can be laid."""
+        if not 1 <= n <= MOST_DIGITS_COUNTED:
+            return [WRONG]
+        rows = [[]]
+        for length in range(n):
+            rows = one_digit_longer(self.box, rows)
+        return [len(rows)]
+
+    def show(self):
+        """Tells the rods' faces, the flaws, and what is laid."""
+        flaws = [cell + (number,) for cell, number in self.flaws.items()]
+        return counted(self.box) + counted(flaws) + counted(self.laid)

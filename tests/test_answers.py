@@ -1,9 +1,12 @@
+import time
 import unittest
 
 from lairdrods.box import answers
-from lines import MIXED, answers_of, begin, by, cut, into, lay, row
+from lines import (
+    MIXED, TWELVE, answers_of, arrows, begin, by, count, cut, explain, into, lay, root, row, show)
 
-# begin; lay 36; cut; row 4; by 25; into 100
+MOST_SECONDS = 5
+# begin; lay 36; cut; row 4; by 25; into 100; root of 1024; arrows 4; explain 154 by row 4; count 2; show
 EVERY_CALL = [
     0, 8, 1, 2, 3, 4, 5, 6, 7, 8,
     1, 2, 3, 6,
@@ -11,6 +14,11 @@ EVERY_CALL = [
     3, 4,
     4, 2, 2, 5,
     5, 3, 1, 0, 0,
+    6, 4, 1, 0, 2, 4,
+    7, 4,
+    8, 4, 3, 1, 5, 4,
+    9, 2,
+    10,
 ]
 EVERY_ANSWER = [
     1, 0,
@@ -19,8 +27,14 @@ EVERY_ANSWER = [
     7, 2, 12, 24, 3, 1, 4, 4,
     11, 3, 9, 0, 0, 2, 7, 2, 3, 1, 8, 0,
     5, 1, 2, 2, 2, 8,
+    5, 2, 3, 2, 1, 0,
+    4, 2, 4, 1, 4,
+    7, 2, 0, 2, 13, 1, 1, 34,
+    1, 32,
+    19, 2, 1, 2, 3, 4, 5, 6, 7, 8, 1, 1, 0, 4, 99, 2, 0, 2, 1, 1,
 ]
-# by, lay, begin, row, into, cut, lay, into, begin, row: each refusal among them
+# by, lay, begin, row, into, cut, lay, into, begin, row; then root, arrows, explain, count
+# and begin, root, arrows, explain again: each refusal among them
 SEVERAL_REFUSED = [
     4, 1, 7,
     1, 1, 7,
@@ -32,6 +46,14 @@ SEVERAL_REFUSED = [
     5, 1, 9,
     0, 0,
     3, 0,
+    6, 3, 1, 4, 4,
+    7, 10,
+    8, 0, 1, 5,
+    9, 4,
+    0, 4, 5, 5, 5, 5,
+    6, 0,
+    7, 3,
+    8, 3, 2, 1, 5,
 ]
 SEVERAL_REFUSED_ANSWER = [
     1, -6,
@@ -44,6 +66,14 @@ SEVERAL_REFUSED_ANSWER = [
     1, -7,
     1, -1,
     3, 0, 1, 0,
+    3, -3, 1, 2,
+    1, -1,
+    1, -1,
+    1, -1,
+    1, 0,
+    1, -1,
+    1, -6,
+    1, -6,
 ]
 
 
@@ -61,7 +91,7 @@ class AnswersTest(unittest.TestCase):
     def test_counts_stand_ahead_of_each_answer(self):
         self.assertEqual(answers(EVERY_CALL), EVERY_ANSWER)
 
-    def test_a_refusal_is_its_number_alone(self):
+    def test_a_refusal_is_its_number_alone_but_for_what_the_root_cannot_have_laid(self):
         self.assertEqual(answers(SEVERAL_REFUSED), SEVERAL_REFUSED_ANSWER)
 
     def test_a_list_of_one_call(self):
@@ -73,8 +103,31 @@ class AnswersTest(unittest.TestCase):
         self.assertEqual(answers([3, 5]), [1, -6])
         self.assertEqual(answers([4, 1, 5]), [1, -6])
         self.assertEqual(answers([5, 1, 5]), [1, -6])
+        self.assertEqual(answers([6, 1, 5]), [4, 1, 2, 1, 1])
+        self.assertEqual(answers([6, 3, 5, 0, 0]), [3, -3, 1, 4])
+        self.assertEqual(answers([7, 5]), [1, -6])
+        self.assertEqual(answers([8, 5, 1, 5]), [1, -6])
+        self.assertEqual(answers([9, 1]), [1, 0])
+        self.assertEqual(answers([10]), [3, 0, 0, 0])
 
-    def test_sixty_calls(self):
+    def test_each_of_the_eleven_calls_in_any_order(self):
+        calls = [
+            show(), count(1), explain(1, 5), arrows(1), root(1, 0, 0), into(5), by(5), row(1),
+            cut(0, 0, 1, 5), lay(1), begin((1, 2, 3, 4))]
+        self.assertEqual(answers_of(*calls), [
+            [0, 0, 0], [0], [-6], [-6], [-3, 1, 2], [-6], [-6], [-6], [-1], [-3], [0]])
+
+    def test_sixty_calls_of_all_kinds(self):
+        calls = [
+            begin(*MIXED), lay(3, 6), cut(0, 2, 4, 50), row(4), by(4, 1), into(1, 0, 0), root(1, 4, 4),
+            arrows(4), explain(4, 1, 5, 4), count(1), show(), lay(0, 0)]
+        told = [
+            [0], [0, 0, 2, 1, 1], [1], [2, 50, 24, 3, 5, 2, 4], [4, 5, 2, 7, 6, 3, 5, 2, 4, 2, 3, 6],
+            [1, 2, 2, 2, 8], [2, 1, 2, 1, 0], [2, 4, 1, 4], [2, 0, 2, 13, 1, 1, 34], [10],
+            [4, 1, 2, 3, 4, 5, 6, 7, 8, 9, 0, 1, 2, 3, 4, 5, 6, 1, 0, 2, 4, 50, 2, 0, 2, 1, 1], [-3]]
+        self.assertEqual(answers_of(*(calls * 5)), told * 5)
+
+    def test_sixty_cuts_in_a_line(self):
         calls = begin(*MIXED) + lay(3, 6)
         told = [1, 0, 5, 0, 0, 2, 1, 1]
         for number in range(58):
@@ -128,6 +181,39 @@ class AnswersTest(unittest.TestCase):
             [-6], [0], [-6], [0, 0, 0, 1, 0], [2, 1, 5, 2, 1, 5], [1], [2, 2, 5, 2, 2, 5],
             [2, 2, 5, 2, 2, 5], [1, 3, 1, 5], [0, 1, 0, 0, 0], [2, 5, 2, 2, 5, 2],
             [0], [-6]])
+
+
+class TimeTest(unittest.TestCase):
+    def answers_in_time(self, *calls):
+        start = time.process_time()
+        told = answers_of(*calls)
+        self.assertLess(time.process_time() - start, MOST_SECONDS)
+        return told
+
+    def test_three_digits_counted_again_and_again(self):
+        for rods, rows in (
+                (TWELVE, 1000), ([(1, 2, 3, 4)] * 12, 64), ([(1, 2, 3, 4), (5, 6, 7, 8), (9, 1, 5, 6)] * 4, 729),
+                ([(7, 7, 7, 7)] * 12, 1)):
+            told = self.answers_in_time(begin(*rods), *[count(3)] * 59)
+            self.assertEqual(told, [[0]] + [[rows]] * 59)
+
+    def test_eight_digits_laid_with_alike_rods(self):
+        rods = [(1, 2, 3, 4)] * 12
+        told = self.answers_in_time(begin(*rods), *[lay(1, 2, 3, 4, 1, 2, 3, 4)] * 59)
+        self.assertEqual(told[1], [0, 0, 0, 1, 1, 2, 2, 3, 3, 4, 0, 5, 1, 6, 2, 7, 3])
+        told = self.answers_in_time(begin(*rods), *[lay(1, 2, 3, 4, 1, 2, 3, 9)] * 59)
+        self.assertEqual(told[1:], [[-3]] * 59)
+
+    def test_eight_rods_explained_again_and_again(self):
+        calls = [begin(*[(9, 9, 9, 9)] * 8), lay(*[9] * 8)]
+        told = self.answers_in_time(*calls, *[explain(9, 8, 9, 9, 9, 9, 9, 9, 8, 1)] * 58)
+        self.assertEqual(told[2:], [[2, 6, 0, 80, 7, 0, 71]] * 58)
+
+    def test_roots_of_numbers_that_need_much_laid(self):
+        told = self.answers_in_time(begin(*[(1, 8, 9, 0)] * 12), *[root(*[9] * 16)] * 59)
+        self.assertEqual(told[1:], [[8] + [9] * 8 + [9, 1, 9, 9, 9, 9, 9, 9, 9, 8]] * 59)
+        told = self.answers_in_time(begin(*[(1, 7, 9, 0)] * 12), *[root(*[9] * 16)] * 59)
+        self.assertEqual(told[1:], [[-3, 2, 1, 8]] * 59)
 
 
 if __name__ == "__main__":

@@ -1,6 +1,5 @@
 import unittest
 
-from lairdrods.rods import Rods
 from lines import MIXED, answers_of, begin, cut, last_answer, lay, row
 
 
@@ -65,37 +64,6 @@ class CutTest(unittest.TestCase):
         calls = [cut(0, face, k, 99) for face in range(4) for k in range(1, 10)]
         told = answers_of(begin(*MIXED), *calls)
         self.assertEqual(told[1:], [[count] for count in range(1, 37)])
-
-
-class OrderOfFlawsTest(unittest.TestCase):
-    # No call answers the order yet, so it's looked at where it's kept.
-    def order_after(self, *cuts):
-        rods = Rods()
-        rods.begin([1, 2, 3, 4, 5, 6, 7, 8])
-        for r, f, k, v in cuts:
-            rods.cut(r, f, k, v)
-        return list(rods.flaws.items())
-
-    def test_in_the_order_in_which_they_were_cut(self):
-        self.assertEqual(self.order_after((1, 0, 9, 1), (0, 3, 1, 2), (0, 0, 5, 3)), [
-            ((1, 0, 9), 1), ((0, 3, 1), 2), ((0, 0, 5), 3)])
-
-    def test_cut_again_with_another_number_it_goes_to_the_end(self):
-        self.assertEqual(self.order_after((0, 0, 1, 2), (0, 0, 2, 3), (0, 0, 1, 4)), [
-            ((0, 0, 2), 3), ((0, 0, 1), 4)])
-
-    def test_cut_again_with_the_same_number_it_goes_to_the_end(self):
-        self.assertEqual(self.order_after((0, 0, 1, 2), (0, 0, 2, 3), (0, 0, 1, 2)), [
-            ((0, 0, 2), 3), ((0, 0, 1), 2)])
-
-    def test_mended_and_cut_again_it_goes_to_the_end(self):
-        self.assertEqual(self.order_after((0, 0, 1, 2), (0, 0, 2, 3), (0, 0, 1, 1)), [((0, 0, 2), 3)])
-        self.assertEqual(self.order_after((0, 0, 1, 2), (0, 0, 2, 3), (0, 0, 1, 1), (0, 0, 1, 2)), [
-            ((0, 0, 2), 3), ((0, 0, 1), 2)])
-
-    def test_a_refused_cut_leaves_the_order(self):
-        self.assertEqual(self.order_after((0, 0, 1, 2), (0, 0, 2, 3), (0, 0, 1, 100)), [
-            ((0, 0, 1), 2), ((0, 0, 2), 3)])
 
 
 if __name__ == "__main__":

@@ -1,7 +1,8 @@
 import itertools
 import unittest
 
-from lines import MIXED, NINES, answers_of, begin, cut, last_answer, lay, row
+from lines import (
+    MIXED, NINES, answers_of, begin, cut, drawn_numbers, drawn_rods, last_answer, lay, row)
 
 
 def laid_plainly(rods, digits):
@@ -13,15 +14,6 @@ def laid_plainly(rods, digits):
                 told += [rod, rods[rod].index(digit)]
             return told
     return [-3]
-
-
-def drawn_numbers(seed, count, below):
-    """Numbers in no plain order, the same ones each time."""
-    found = []
-    for step in range(count):
-        seed = (seed * 1103515245 + 12345) % 2147483648
-        found.append((seed >> 12) % below)
-    return found
 
 
 class LayTest(unittest.TestCase):
@@ -91,8 +83,7 @@ class LayTest(unittest.TestCase):
     def test_as_found_by_going_through_all_ways(self):
         for seed in range(300):
             count = 1 + seed % 6
-            faces = drawn_numbers(seed, 4 * count, 3 + seed % 5)
-            rods = [tuple(faces[start:start + 4]) for start in range(0, 4 * count, 4)]
+            rods = drawn_rods(seed, count, 3 + seed % 5)
             digits = drawn_numbers(seed + 1000, 1 + seed % 5, 3 + seed % 5)
             self.assertEqual(last_answer(begin(*rods), lay(*digits)), laid_plainly(rods, digits))
 
